@@ -1,0 +1,1 @@
+"""Journals joined: the journals of several parties, put together into one story."""
