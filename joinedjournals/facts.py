@@ -58,3 +58,8 @@ def facts_told_as(facts, kind, party, number):
 
 def writer_and_number(fact):
     return (fact[PARTY], fact[NUMBER])
+
+
+# All entries that somebody tells, each once, as pairs (party, number) in rising order.
+def told_entries(facts):
+    return sorted(set([writer_and_number(fact) for fact in facts_of_kind(facts, ENTRY)]))

@@ -64,3 +64,8 @@ def write_party(party):
 # Whether the signs may be the text of an entry or of a correction.
 def is_text(signs):
     return len(signs) <= MOST_TEXT_SIGNS and all([BLANK <= sign <= LAST_PLAIN_SIGN for sign in signs])
+
+
+# Whether the signs come one behind another in the text; both are tuples.
+def is_within(signs, text):
+    return any([text[at:at + len(signs)] == signs for at in range(len(text) - len(signs) + 1)])

@@ -4,6 +4,10 @@ from joinedjournals.heap import answers
 
 CLEAR = [0]
 COUNTS = [2]
+GROUPS = [10]
+CLASH = [11]
+TWICE = [12]
+CONTESTED = [13]
 
 
 def numbers_of(text):
@@ -33,6 +37,23 @@ def knows(party, number):
 
 def day(party, number):
     return [7, party, number]
+
+
+def ahead(party, other_party):
+    return [8, party, other_party]
+
+
+def same(party, number, other_party):
+    return [9, party, number, other_party]
+
+
+def story(party):
+    return [14, party]
+
+
+def find(signs):
+    numbers = numbers_of(signs)
+    return [15, len(numbers)] + numbers
 
 
 def counted(text):
@@ -66,11 +87,29 @@ def last(*calls):
     return ask(*calls)[-1]
 
 
+def behind(told, *calls):
+    """The answers to the calls alone, asked behind what's told."""
+    return ask(*told, *calls)[len(told):]
+
+
 def all_facts(*calls):
     """All facts of the heap behind the calls, as the call fact answers them."""
     how_many = last(*calls, COUNTS)[0]
     places = [fact(place) for place in range(how_many)]
     return ask(*calls, *places)[len(calls):]
+
+
+def standing_in(answer):
+    """What stands, as the call entry answers it: pairs of place and text; fails if the counts don't fit."""
+    pairs = []
+    at = 1
+    while at < len(answer):
+        end = at + 2 + answer[at + 1]
+        pairs.append((answer[at], "".join([chr(sign) for sign in answer[at + 2:end]])))
+        at = end
+    if len(pairs) != answer[0] or at != len(answer):
+        raise AssertionError(f"the counts don't fit: {answer}")
+    return pairs
 
 
 def printed(party, *calls):

@@ -1,22 +1,13 @@
 import unittest
 
-from tests.asking import add, counted, entry, last
+from tests.asking import add, counted, entry, last, standing_in
 
 FAR = 10 ** 18
 
 
 def standing(*calls, of=(0, 1)):
     """What stands of the entry, as pairs of place and text."""
-    answer = last(*calls, entry(*of))
-    pairs = []
-    at = 1
-    while at < len(answer):
-        end = at + 2 + answer[at + 1]
-        pairs.append((answer[at], "".join([chr(sign) for sign in answer[at + 2:end]])))
-        at = end
-    if len(pairs) != answer[0] or at != len(answer):
-        raise AssertionError(f"the counts don't fit: {answer}")
-    return pairs
+    return standing_in(last(*calls, entry(*of)))
 
 
 class NotCorrectedTest(unittest.TestCase):

@@ -22,6 +22,13 @@ WORDS = """type typing typing_extensions enum Enum IntEnum StrEnum Flag IntFlag 
 NamedTuple TypedDict TYPE_CHECKING abstractmethod""".split()
 
 
+KEYWORDS = [("sorted", "key"), ("sorted", "reverse"), ("min", "key"), ("min", "default"), ("max", "key"),
+            ("max", "default"), ("sum", "start"), ("enumerate", "start"), ("zip", "strict")]
+WALKED = "range enumerate zip reversed items keys values".split()
+WALKERS = "list tuple dict sorted sum any all enumerate zip min max join".split()
+CHANGES = "append clear extend insert pop remove reverse setdefault update".split()
+
+
 def package_files():
     return sorted(PACKAGE.glob("*.py"))
 
@@ -47,6 +54,37 @@ def bound_names(tree):
     names += [node.arg for node in ast.walk(tree) if isinstance(node, ast.arg)]
     names += [node.name for node in ast.walk(tree) if isinstance(node, (ast.FunctionDef, ast.ClassDef))]
     names += [alias.name for node in ast.walk(tree) if isinstance(node, ast.ImportFrom) for alias in node.names]
+    return names
+
+
+def called_name(node):
+    """The name of the function or method that is called, or None if the node is no call."""
+    if not isinstance(node, ast.Call):
+        return None
+    return node.func.id if isinstance(node.func, ast.Name) else node.func.attr
+
+
+def nodes_with_parents(tree):
+    return [(node, parent) for parent in ast.walk(tree) for node in ast.iter_child_nodes(parent)]
+
+
+def top_names(tree):
+    names = [node.name for node in tree.body if isinstance(node, (ast.FunctionDef, ast.ClassDef))]
+    return names + [node.targets[0].id for node in tree.body if isinstance(node, ast.Assign)]
+
+
+def imports_of(tree):
+    return [node for node in tree.body if isinstance(node, ast.ImportFrom)]
+
+
+def changed_names(nodes):
+    """The names whose values are changed within the nodes, by an index or a method."""
+    names = []
+    for node in [part for body in nodes for part in ast.walk(body)]:
+        if isinstance(node, ast.Subscript) and isinstance(node.ctx, ast.Store):
+            names.append(ast.unparse(node.value))
+        if called_name(node) in CHANGES and isinstance(node.func, ast.Attribute):
+            names.append(ast.unparse(node.func.value))
     return names
 
 
@@ -125,6 +163,62 @@ class FormTest(unittest.TestCase):
                     self.assertIn(node.id, bound + BUILT_IN)
                 if isinstance(node, ast.Call) and isinstance(node.func, ast.Attribute):
                     self.assertIn(node.func.attr, METHODS)
+
+    def test_imports_are_from_the_file_that_defines_the_name(self):
+        trees = {f"joinedjournals.{path.stem}": tree for path, tree in zip(package_files(), package_trees())}
+        for tree in trees.values():
+            for node in imports_of(tree):
+                for alias in node.names:
+                    self.assertIn(alias.name, top_names(trees[node.module]))
+
+    def test_no_two_files_draw_from_one_another(self):
+        left = {f"joinedjournals.{path.stem}": [node.module for node in imports_of(tree)]
+                for path, tree in zip(package_files(), package_trees())}
+        while left:
+            free = [name for name, drawn in left.items() if not any([other in left for other in drawn])]
+            self.assertNotEqual(free, [], left)
+            left = {name: drawn for name, drawn in left.items() if name not in free}
+
+    def test_each_name_once_at_the_top(self):
+        for tree in package_trees():
+            names = top_names(tree) + [alias.name for node in imports_of(tree) for alias in node.names]
+            self.assertEqual(len(names), len(set(names)))
+            for function in [node for node in ast.walk(tree) if isinstance(node, ast.FunctionDef)]:
+                inner = [node.arg for node in ast.walk(function) if isinstance(node, ast.arg)]
+                inner += [node.id for node in ast.walk(function)
+                          if isinstance(node, ast.Name) and isinstance(node.ctx, ast.Store)]
+                self.assertEqual([name for name in inner if name in names], [], function.name)
+
+    def test_is_and_keywords(self):
+        for tree in package_trees():
+            for node in ast.walk(tree):
+                if isinstance(node, ast.Compare) and isinstance(node.ops[0], (ast.Is, ast.IsNot)):
+                    self.assertIsInstance(node.comparators[0], ast.Constant)
+                    self.assertIn(node.comparators[0].value, (None, True, False))
+                if isinstance(node, ast.Call):
+                    for keyword in node.keywords:
+                        self.assertIn((called_name(node), keyword.arg), KEYWORDS)
+
+    def test_walked_at_once(self):
+        for tree in package_trees():
+            for node, parent in nodes_with_parents(tree):
+                if called_name(node) in WALKED:
+                    walked = isinstance(parent, (ast.For, ast.comprehension)) and parent.iter is node
+                    self.assertTrue(walked or called_name(parent) in WALKERS, ast.unparse(parent))
+
+    def test_sets_stand_on_the_spot(self):
+        for tree in package_trees():
+            for node, parent in nodes_with_parents(tree):
+                if called_name(node) in ["set", "frozenset"]:
+                    self.assertTrue(isinstance(parent, (ast.Compare, ast.BinOp)) or called_name(parent) in ["sorted", "len"],
+                                    ast.unparse(parent))
+
+    def test_loops_do_not_change_what_they_walk(self):
+        for tree in package_trees():
+            for node in ast.walk(tree):
+                if isinstance(node, ast.For):
+                    walked = [ast.unparse(part) for part in ast.walk(node.iter) if isinstance(part, (ast.Name, ast.Attribute))]
+                    self.assertEqual([name for name in changed_names(node.body) if name in walked], [])
 
 
 if __name__ == "__main__":
